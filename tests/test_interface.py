@@ -1,0 +1,107 @@
+"""The interface: each name stands in its file, with its arguments, and each method in its class."""
+
+import ast
+import importlib
+import inspect
+import pathlib
+import unittest
+
+PACKAGE = pathlib.Path(__file__).resolve().parent.parent / "whosetomorrow"
+
+FUNCTIONS = """
+words: find_kind(thing) kind_of(word) check_word(word) is_whole(thing) is_name(thing) is_unknown(word)
+words: is_absolute(word) needs_report(word)
+situations: all_tongues() exchange_name(name,one,other)
+talkways: row_at(talk,path) word_at(talk,path,index) with_row(talk,path,row) with_word(talk,path,index,word)
+talkways: rows_of(talk) words_of(talk) report_paths(talk) unknown_parts(talk) names_in(talk) places_in(talk)
+talkways: check_values(talk,values) report_number(talk,path)
+along: word_along(word,days) word_exchanged(word,one,other) talk_along(talk,days) talk_exchanged(talk,one,other)
+along: values_along(talk,values,days) values_exchanged(talk,values,one,other)
+wordtext: word_text(word) read_word(text)
+talktext: talk_text(talk) read_talk(text)
+levels: outer_level(situation) inner_level(level,own,manner,tongue) slot_of(word) day_from(day,word)
+levels: said_at(level,word)
+hearing: hear_talk(talk,situation,tongue,values=()) level_at(talk,path,situation,tongue,values=())
+hearing: meaning_at(talk,path,index,situation,tongue,values=()) settled_talk(talk,situation,tongue,values=())
+hearing: heard_alike(one,other,situation,tongue,values=()) heard_parting(one,other,situation,tongue,values=())
+hearing: situation_within(talk,path,situation,tongue,values=()) said_alone(talk,path)
+roads: road_of(talk,path,index,tongue) road_end(road) read_road(road,situation,value=None)
+roads: places_hanging(talk,path,index,tongue) outer_places(talk,slot,tongue) unknown_places(talk,number,index,tongue)
+sevens: even_sevens(k) saw_sevens(w,m) lead_sevens(sevens,hop) led_by(hops) shape_of_sevens(sevens)
+sevens: rests_alike(one,other) least_hops(sevens)
+terms: check_term(term) day_plus(term,k) day_coming(term,w) day_last(term,w) weekday_of_term(term)
+terms: root_of_term(term) value_of(term,situation,values=())
+termlevels: outer_terms() inner_terms(level,report,number,tongue) terms_at(talk,path,tongue)
+termlevels: terms_within(talk,path,tongue) term_said(level,word) words_alike(level,term)
+forms: form_of(talk,tongue) bare_form(form) form_value(form,situation,values=()) check_form(form) terms_in(form)
+forms: looks_to(form) is_settled(form)
+alike: first_unlike(one,other,*,bare=False) says_same(one,other,tongue,*,other_tongue=None)
+alike: bare_same(one,other,tongue,*,other_tongue=None)
+alike: parted_fault(one,other,tongue,parted,*,other_tongue=None,bare=False)
+"""
+CLASSES = """
+situations: Tongue(person,you,today,here) __eq__
+situations: Situation(teller,hearer,day,place) moved(days) exchanged(one,other) __eq__
+talks: Plain(deed,words) __eq__
+talks: Report(who,whom,day,place,manner,rows) __eq__
+talks: Talk(rows) __len__ __iter__ __eq__
+alike: Parted(path,index,situation,value_rows) __eq__
+"""
+GENERATORS = ["rows_of", "words_of", "places_hanging", "outer_places", "unknown_places", "terms_in"]
+
+
+def told_rows(text):
+    """Return the couples (module, entry) of a table."""
+    rows = []
+    for line in text.strip().split("\n"):
+        module, rest = line.split(": ")
+        rows.extend((module, entry) for entry in rest.split())
+    return rows
+
+
+def signature_text(thing):
+    """Return the parameters of a function or a class as the tables write them."""
+    return str(inspect.signature(thing)).replace(" ", "")
+
+
+def definitions(module):
+    """Return the functions and classes that a file itself defines, by their names."""
+    tree = ast.parse((PACKAGE / f"{module}.py").read_text())
+    return {node.name: node for node in tree.body if isinstance(node, (ast.FunctionDef, ast.ClassDef))}
+
+
+class InterfaceTest(unittest.TestCase):
+    def test_functions(self):
+        for module, entry in told_rows(FUNCTIONS):
+            name = entry.split("(")[0]
+            function = getattr(importlib.import_module(f"whosetomorrow.{module}"), name)
+            self.assertIn(name, definitions(module))
+            self.assertEqual(name + signature_text(function), entry)
+            self.assertEqual(inspect.isgeneratorfunction(function), name in GENERATORS, name)
+
+    def test_classes_and_their_methods(self):
+        for line in CLASSES.strip().split("\n"):
+            (module, head), *methods = told_rows(line)
+            name = head.split("(")[0]
+            made = getattr(importlib.import_module(f"whosetomorrow.{module}"), name)
+            self.assertEqual(name + signature_text(made), head)
+            own = {node.name: node for node in definitions(module)[name].body if isinstance(node, ast.FunctionDef)}
+            for _, method in methods:
+                self.assertIn(method.split("(")[0], own, name)
+                if "(" in method:
+                    arguments = [argument.arg for argument in own[method.split("(")[0]].args.args]
+                    self.assertEqual(arguments, ["self"] + method[:-1].split("(")[1].split(","))
+
+    def test_rows_stand_under_saying(self):
+        talks = importlib.import_module("whosetomorrow.talks")
+        self.assertEqual(talks.Plain.__bases__, (talks.Saying,))
+        self.assertEqual(talks.Report.__bases__, (talks.Saying,))
+        self.assertEqual(talks.Saying.__bases__, (object,))
+
+    def test_the_constant(self):
+        levels = importlib.import_module("whosetomorrow.levels")
+        self.assertEqual(len(levels.SLOTS), 8)
+
+
+if __name__ == "__main__":
+    unittest.main()

@@ -1,0 +1,1 @@
+"""Talks whose words look to who says them, decided for all situations."""

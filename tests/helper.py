@@ -10,7 +10,7 @@ from whosetomorrow.talkways import unknown_parts
 
 NO_WORDS = [
     None, True, False, 0, 1.5, "", "I", "today", b"I", [], ["I"], (), ("i",), ("I", 1), ("I", None), ("II",), (1,),
-    (None,), (("I",),), ("name",), ("name", ""), ("name", "abcdefghi"), ("name", "Bob"), ("name", "b0b"),
+    (None,), (("I",),), (["I"],), ({},), (["name"], "bob"), ({}, 1), ([], []), ("name",), ("name", ""), ("name", "abcdefghi"), ("name", "Bob"), ("name", "b0b"),
     ("name", "b b"), ("name", " bob"), ("name", "bob\n"), ("name", 3), ("name", None), ("name", b"bob"),
     ("name", "bob", "bob"), ("name", ["bob"]), ("name", ("bob",)), ["name", "bob"], {"name": "bob"}, {"I"},
     ("today",), ("today", True), ("today", False), ("today", 31), ("today", -31), ("today", "1"), ("today", 1.0),

@@ -36,6 +36,9 @@ class FirstUnlikeTest(Case):
         for one, other, told, bare in [
                 ([a], [a], None, None), ([a], [a, b], ((), None), ((), None)), ([b, a], [a], ((), None), ((), None)),
                 ([a], [b], ((0,), 0), ((0,), 0)), ([a, a], [a, b], ((1,), 0), ((1,), 0)),
+                ([come()], [go], ((0,), None), ((0,), None)),
+                ([a], [Plain("go", a.words)], ((0,), None), ((0,), None)),
+                ([a], [Plain("go", b.words)], ((0,), None), ((0,), None)),
                 ([a], [go], ((0,), None), ((0,), None)), ([a], [come()], ((0,), None), ((0,), None)),
                 ([a], [report("own", a)], ((0,), None), ((0,), None)),
                 ([come(("I",), ("you",))], [come(("I",), ("I",))], ((0,), 1), ((0,), 1)),

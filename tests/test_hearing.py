@@ -185,7 +185,8 @@ class AlikeTest(Case):
         for one, other, told in [
                 ([a], [a], None), ([a], [come(("I",))], None), ([a], [a, b], ((), None)), ([b, a], [a], ((), None)),
                 ([a], [b], ((0,), 0)), ([a, a], [a, b], ((1,), 0)), ([a], [go], ((0,), None)),
-                ([a], [come()], ((0,), None)), ([a, go], [a, report("own", a)], ((1,), None)),
+                ([come()], [go], ((0,), None)), ([a], [Plain("go", a.words)], ((0,), None)),
+                ([a], [Plain("go", b.words)], ((0,), None)), ([a], [come()], ((0,), None)), ([a, go], [a, report("own", a)], ((1,), None)),
                 ([come(("I",), ("you",))], [come(("I",), ("I",))], ((0,), 1)),
                 ([come(("I",), ("you",))], [come(("you",), ("I",))], ((0,), 0)),
                 ([come(("I",))], [come(("here",))], ((0,), 0)),

@@ -131,8 +131,9 @@ class BadRoadTest(Case):
         for word in ALL_WORDS:
             looks = word[0] not in ("name", "date", "place", "somebody", "one day", "somewhere")
             if looks:
-                self.refused_road(((2, word),), 0)
-                self.refused_road(((3, word), (2, word)), 1)
+                for depth in (1, 2, 3):
+                    self.refused_road(((depth, word),), 0)
+                    self.refused_road(((depth + 1, word), (depth, word)), 1)
             else:
                 self.assertIn(road_end(((2, word),)), ("known", "unknown"))
 

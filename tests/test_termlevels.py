@@ -178,7 +178,11 @@ class WordsAlikeTest(Case):
         self.assertEqual(self.check(OUTER, ("sevens", ("D",), saw_sevens(3, 0))), [("coming", 3)])
         self.assertEqual(self.check(OUTER, ("sevens", ("D",), saw_sevens(3, -8))), [("last", 3)])
         self.assertEqual(self.check(OUTER, ("sevens", ("D",), even_sevens(-30))), [("today", -30)])
-        self.assertEqual(self.check(OUTER, ("sevens", ("D",), even_sevens(31))), [])
+        self.assertEqual(self.check(OUTER, ("sevens", ("D",), even_sevens(30))), [("today", 30)])
+        for k in (31, -31, 38, -38):
+            self.assertEqual(self.check(OUTER, ("sevens", ("D",), even_sevens(k))), [])
+            self.assertEqual(self.check(level, ("date", 3 + k)), [
+                word for word in [("that day", k - 2), ("date", 3 + k)] if word[0] == "date" or -30 <= k - 2 <= 30])
         self.assertEqual(self.check(OUTER, ("sevens", ("day", 0), even_sevens(0))), [])
         self.assertEqual(self.check(OUTER, ("who", 0)), [])
         self.assertEqual(self.check(OUTER, ("H",)), [("you",)])
@@ -211,6 +215,12 @@ class WordsAlikeTest(Case):
         for term in [("name", "ann"), ("place", "rome"), ("date", 4)]:
             self.assertEqual(words_alike((None,) * 8, term), (term,))
         self.assertEqual(words_alike((None,) * 8, TODAY), ())
+        for slot in (2, 6):
+            saw = ("sevens", ("D",), saw_sevens(3, 0))
+            level = (("T",), ("H",), None, ("Z",), ("T",), ("H",), None, ("Z",))
+            self.assertEqual(words_alike(level, saw), ())
+            level = level[:slot] + (TODAY,) + level[slot + 1:]
+            self.assertEqual(words_alike(level, saw), (("coming" if slot == 2 else "then coming", 3),))
 
 
 if __name__ == "__main__":

@@ -21,10 +21,10 @@ NO_TEXTS = [
     "#abcdefghi", "#r me", "@b0b", "@@a", "#@a", "@ bob", "bob", "=+5", "=-0", "=00", "=05", "=-05", "=5.0", "= 5",
     "=5 ", " =5", "=--5", "=-", "=a", "=1_0", "today+0", "today-0", "today+31", "today-31", "today+03", "today-03",
     "today+-3", "today-+3", "today++3", "today--3", "today+", "today-", "today3", "today+3 ", " today", "today ",
-    "today+3+3", "today+ 3", "todays", "that+0", "that-0", "that+31", "thatday", "that day", "thatday+1", "that3",
+    "today+3+3", "today+ 3", "todays", "today0", "that0", "today00", "that+0", "that-0", "that+31", "thatday", "that day", "thatday+1", "that3",
     "coming", "coming7", "coming-1", "coming+1", "coming06", "coming00", "coming 3", "coming-0", "coming10", "last",
     "last7", "lasto", "then", "thencoming", "thencoming7", "then coming3", "thenlast", "thenlast-1", "Coming3",
-    "I ", " I", "II", "selfself", "/", ";", "[", "here\n", "\there", "tomorrow", "=1e3", "=0x1", "@bob#rome",
+    "I ", " I", "II", "selfself", "/", ";", "[", "here\n", "\there", "tomorrow", "=1e3", "=0x1", "=1x", "=12a", "=1+1", "=1-1", "=+1", "@bob#rome",
 ]
 
 

@@ -1,6 +1,6 @@
 """Levels of terms: what words mean where they stand, in any situation."""
 
-from whosetomorrow.levels import NOTHING, SLOTS, inner_level, slot_entry
+from whosetomorrow.levels import NOTHING, SLOTS, inner_level, slot_entry, slot_of
 from whosetomorrow.sevens import even_sevens
 from whosetomorrow.talkways import report_at, report_number
 from whosetomorrow.terms import check_term, day_coming, day_last, day_plus, weekday_of_term
@@ -77,21 +77,19 @@ def counted_word(level, term, head):
     return [(head, k)] if -30 <= k <= 30 and day_plus(entry, k) == term else []
 
 
-def weekday_words(level, term, coming, last, slot):
-    """Return the words with these first entries that count from a slot and have a term."""
+def weekday_words(level, term):
+    """Return the words with weekdays that have a day term at a level."""
     weekday = weekday_of_term(term)
-    if weekday is None or level[slot] is None:
+    if weekday is None:
         return []
-    words = [(coming, weekday), (last, weekday)]
-    return [word for word in words if term_said(level, word) == term]
+    words = [(head, weekday) for head in ("coming", "last", "then coming", "then last")]
+    return [word for word in words if level[slot_of(word)] is not None and term_said(level, word) == term]
 
 
 def day_words_alike(level, term):
     """Return all known words that have just this day term at a level."""
-    words = counted_word(level, term, "today") + counted_word(level, term, "that day")
-    words.extend(weekday_words(level, term, "coming", "last", 2))
-    words.extend(weekday_words(level, term, "then coming", "then last", 6))
-    return words
+    counted = counted_word(level, term, "today") + counted_word(level, term, "that day")
+    return counted + weekday_words(level, term)
 
 
 def words_alike(level, term):

@@ -1,11 +1,11 @@
 """Whether two talks say the same in all situations."""
 
 from whosetomorrow.errors import BadValues
-from whosetomorrow.forms import form_of, terms_in
+from whosetomorrow.forms import form_of, term_at
 from whosetomorrow.strangers import unlike_situation
 from whosetomorrow.talkways import check_values, names_in, places_in
 from whosetomorrow.terms import root_of_term, value_of
-from whosetomorrow.toldrows import first_parting
+from whosetomorrow.toldrows import are_unlike, first_parting
 
 
 class Parted:
@@ -26,20 +26,12 @@ class Parted:
 
 def first_unlike(one, other, *, bare=False):
     """Return the first place at which two forms differ, or None."""
-    return first_parting(one, other, bare, ())
+    return first_parting(one, other, bare, are_unlike, ())
 
 
 def forms_of_both(one, other, tongue, other_tongue):
     """Return the forms of two talks; no other tongue stands for the same one."""
     return (form_of(one, tongue), form_of(other, tongue if other_tongue is None else other_tongue))
-
-
-def term_at(form, path, index):
-    """Return the term at a word place of a form."""
-    for at, number, term in terms_in(form):
-        if at == path and number == index:
-            return term
-    return None
 
 
 def moved_root(one, other):

@@ -68,6 +68,14 @@ def terms_in(form):
     yield from things_below(form, ())
 
 
+def term_at(form, path, index):
+    """Return the term at a word place of a form."""
+    for at, number, term in terms_in(form):
+        if at == path and number == index:
+            return term
+    return None
+
+
 def looks_to(form):
     """Return the roots of all terms, each once, in their order."""
     found = [root_of_term(term) for path, index, term in terms_in(form)]

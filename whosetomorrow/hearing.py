@@ -7,7 +7,9 @@ from whosetomorrow.talks import Talk
 from whosetomorrow.talkways import (
     check_values, report_at, report_number, row_at, with_words, word_at,
 )
-from whosetomorrow.toldrows import first_parting, level_around, said_parts, said_rows, things_below
+from whosetomorrow.toldrows import (
+    are_unlike, first_parting, level_around, said_parts, said_rows, things_below,
+)
 from whosetomorrow.words import is_unknown
 
 VALUE_HEADS = ("name", "name", "date", "place")
@@ -55,7 +57,7 @@ def heard_parting(one, other, situation, tongue, values=()):
     """Return the first place at which two talks are heard unlike with the same values, or None."""
     heard = hear_talk(one, situation, tongue, values)
     heard_too = hear_talk(other, situation, tongue, values)
-    return first_parting(heard, heard_too, False, ())
+    return first_parting(heard, heard_too, False, are_unlike, ())
 
 
 def heard_alike(one, other, situation, tongue, values=()):

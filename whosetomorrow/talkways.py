@@ -79,10 +79,14 @@ def words_of(talk):
             yield (path, index, word)
 
 
-def reworded_rows(rows, words, start):
-    """Return rows with other words in place of their own, and where in the words the rest begins."""
+def remade_rows(rows, words, manners, start, number):
+    """Return rows with other words and manners in place of their own, and where in the words the rest begins.
+
+    The first report in the rows has this number.
+    """
     made = []
     at = start
+    report = number
     for row in rows:
         if isinstance(row, Plain):
             end = at + len(row.words)
@@ -90,15 +94,26 @@ def reworded_rows(rows, words, start):
             at = end
         else:
             who, whom, day, place = words[at:at + 4]
-            inner, at = reworded_rows(row.rows, words, at + 4)
-            made.append(Report(who, whom, day, place, row.manner, inner))
+            inner, at = remade_rows(row.rows, words, manners, at + 4, report + 1)
+            made.append(Report(who, whom, day, place, manners[report], inner))
+            report = report + row.reports
     return (tuple(made), at)
+
+
+def remade_talk(talk, words, manners):
+    """Return the talk with these words, a row in the order of reading, and these manners of its reports."""
+    rows, _ = remade_rows(talk.rows, words, manners, 0, 0)
+    return Talk(rows)
+
+
+def told_manners(talk):
+    """Return the manners of all reports by their numbers."""
+    return tuple([row.manner for path, row in rows_of(talk) if isinstance(row, Report)])
 
 
 def with_words(talk, words):
     """Return the talk with these words, a row in the order of reading, in place of its own."""
-    rows, _ = reworded_rows(talk.rows, words, 0)
-    return Talk(rows)
+    return remade_talk(talk, words, told_manners(talk))
 
 
 def report_paths(talk):

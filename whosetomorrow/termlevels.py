@@ -30,6 +30,14 @@ def term_said(level, word):
     return day_plus(entry, number)
 
 
+def term_or_none(level, word):
+    """Return the term of a known word at a level of terms, None if the word means nothing there."""
+    slot = slot_of(word)
+    if slot is not None and level[slot] is None:
+        return None
+    return term_said(level, word)
+
+
 def unknown_term(number, index):
     """Return the term of an unknown part of the report with this number."""
     root = (PART_HEADS[index], number)

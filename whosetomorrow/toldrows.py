@@ -80,25 +80,33 @@ def head_of(row, bare):
     return ("report", None if bare else row[5])
 
 
-def first_parting(one, other, bare, path):
-    """Return the first place at which the told rows of the report at a path differ, or None."""
+def are_unlike(one, other):
+    """Tell whether two things are not equal."""
+    return one != other
+
+
+def first_parting(one, other, bare, unlike, path):
+    """Return the first place at which the told rows of the report at a path differ, or None.
+
+    `unlike(thing, other_thing)` tells whether two things in one place differ.
+    """
     if len(one) != len(other):
         return (path, None)
     for at, row in enumerate(one):
-        found = row_parting(row, other[at], bare, path + (at,))
+        found = row_parting(row, other[at], bare, unlike, path + (at,))
         if found is not None:
             return found
     return None
 
 
-def row_parting(one, other, bare, path):
+def row_parting(one, other, bare, unlike, path):
     """Return the first place at which two told rows at this path differ, or None."""
     if head_of(one, bare) != head_of(other, bare):
         return (path, None)
     others = things_of(other)
     for index, thing in enumerate(things_of(one)):
-        if thing != others[index]:
+        if unlike(thing, others[index]):
             return (path, index)
     if one[0] == "plain":
         return None
-    return first_parting(one[6], other[6], bare, path)
+    return first_parting(one[6], other[6], bare, unlike, path)

@@ -38,6 +38,36 @@ forms: looks_to(form) is_settled(form)
 alike: first_unlike(one,other,*,bare=False) says_same(one,other,tongue,*,other_tongue=None)
 alike: bare_same(one,other,tongue,*,other_tongue=None)
 alike: parted_fault(one,other,tongue,parted,*,other_tongue=None,bare=False)
+sayback: talk_of_form(form,tongue) count_alike(talk,tongue) talks_alike(talk,tongue)
+facts: check_mark(mark) check_fact(fact) is_true_at(fact,situation,values=()) first_untrue(facts,situation,values=())
+facts: facts_along(facts,days)
+clashes: find_clash(facts)
+lots: lots_of(facts,terms)
+days: rests_of(facts,mark) difference_of(facts,one,other) told_difference(facts,one,other,one_rest,other_rest)
+fitting: a_fit(facts,terms=()) fit_between(facts,one,other,low,high)
+reasons: clash_reason(facts) reason_fault(facts,reason)
+sure: sure_same(facts,one,other) sure_form(facts,one,other) follows(facts,fact) needless_facts(facts)
+tonguegroups: check_tongues(tongues) flipped_tongue(tongue,shift) forms_by(talk,tongues)
+tonguegroups: shifts_of_word(talk,path,index) shifts_that_matter(talk)
+safety: is_safe(talk,tongues) unsafe_place(talk,tongues)
+menus: menu_of(talk)
+crossing: safe_words(talk,meant,path,index,tongues,menu) put_over(talk,meant,tongues,menu,*,free=False)
+crossing: words_to_change(talk,meant,tongues)
+tellers: fitting_tongues(samples,tongues) untold_pair(talks,tongues) least_tellers(talks,tongues)
+tellers: telling_situation(talks)
+rightwords: is_right(terms,term,facts,word) right_words(terms,term,facts,menu) first_right(terms,term,facts,menu)
+rightwords: why_wrong(terms,term,facts,word) against_menu(terms,term,facts,menu)
+rightwords: against_fault(terms,term,facts,menu,fits)
+rewording: manners_of(talk) choice_rows(talk,tongue,facts,menu,*,into=None,manners=None)
+rewording: count_rewordings(talk,tongue,facts,menu,*,into=None,manners=None)
+rewording: all_rewordings(talk,tongue,facts,menu,*,into=None,manners=None)
+rewording: reworded(talk,tongue,facts,menu,*,into=None,manners=None)
+rewording: unsayable(talk,tongue,facts,menu,*,into=None,manners=None)
+rewording: possible_manners(talk,tongue,facts,menu,*,into=None) normal_talk(talk,tongue,facts,menu)
+rewording: rewording_fault(old,new,tongue,facts,*,into=None)
+retelling: retold(talk,path,tongue,facts,menu) retold_all(talk,manner,tongue,facts,menu)
+retelling: in_tongue(talk,tongue,other,facts,menu)
+retelling: handed_talk(talk,who,day,place,tongue,facts,menu,*,manner='indirect')
 """
 CLASSES = """
 situations: Tongue(person,you,today,here) __eq__
@@ -46,8 +76,17 @@ talks: Plain(deed,words) __eq__
 talks: Report(who,whom,day,place,manner,rows) __eq__
 talks: Talk(rows) __len__ __iter__ __eq__
 alike: Parted(path,index,situation,value_rows) __eq__
+facts: Facts(rows) with_fact(fact) without_fact(number) __len__ __iter__ __eq__
+reasons: Reason(what,row) __eq__
+sure: Unsure(path,index,situation,value_rows) __eq__
+safety: Unsafe(one,other,path,index) __eq__
+menus: Menu(names=(),places=(),dates=()) words_for(kind) position_of(word) __len__ __iter__ __eq__
+rewording: Differs(path,index,situation,value_rows) __eq__
 """
-GENERATORS = ["rows_of", "words_of", "places_hanging", "outer_places", "unknown_places", "terms_in"]
+GENERATORS = [
+    "rows_of", "words_of", "places_hanging", "outer_places", "unknown_places", "terms_in", "talks_alike",
+    "words_to_change", "all_rewordings", "possible_manners",
+]
 
 
 def told_rows(text):

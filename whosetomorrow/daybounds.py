@@ -44,7 +44,7 @@ class Bounds:
 def summed_legs(posts, legs):
     """Return the bounds between posts that legs tell."""
     order = {post: at for at, post in enumerate(posts)}
-    rows = [[None for end in posts] for begin in posts]
+    rows = [[None] * len(posts) for _ in posts]
     for begin, end, worth, leg in legs:
         row = rows[order[begin]]
         at = order[end]

@@ -88,10 +88,12 @@ def against_menu(terms, term, facts, menu):
     return tuple(fits)
 
 
-def is_fit(facts, fit):
-    """Tell whether all facts are true in a pair of a situation and values."""
+def is_fit(facts, terms, fit):
+    """Tell whether all facts are true in a pair of a situation and values, and all terms have a value there."""
     situation, values = fit
     try:
+        for term in terms:
+            value_of(term, situation, values)
         return first_untrue(facts, situation, values) is None
     except BadValues:
         return False
@@ -100,10 +102,10 @@ def is_fit(facts, fit):
 def against_fault(terms, term, facts, menu, fits):
     """Return None if fits show that no word of the menu is right, otherwise what is wrong with them."""
     refuse_clash(facts)
-    kind = check_term(term)
-    if not all([is_fit(facts, fit) for fit in fits]):
+    found = menu_terms(terms, check_term(term), menu)
+    if not all([is_fit(facts, [term] + found, fit) for fit in fits]):
         return "fit"
-    for own in menu_terms(terms, kind, menu):
+    for own in found:
         if not any([parts_here(own, term, fit) for fit in fits]):
             return "word"
     return None

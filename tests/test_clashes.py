@@ -177,8 +177,17 @@ class ReasonFaultTest(FactCase):
                 (((self.ANN, ("T",), ("H",)), (0, 1)), "ends"), (((self.ANN, ("T",), self.ANN), (0, 0)), "ends"),
                 (((self.ANN,), ()), "ends"), (((("T",),), ()), "ends"), ((((),), ()), "ends"),
                 (((self.ANN, ("T",), ("H",), ("T",), ("H",), self.BOB), (0, 1, 1, 1, 2)), None),
-                (((("place", "x"),), ()), "ends")]:
+                (((("place", "x"),), ()), "ends"), (((("T",), ("H",), ("T",)), (1, 1)), "ends"),
+                (((self.ANN, ("T",), ("who", 1)), (0, 4)), "ends"), (((("who", 1), ("T",), self.ANN), (4, 0)), "ends"),
+                (((("who", 1), ("T",), ("H",), self.BOB), (4, 0, 2)), "chain"),
+                (((("who", 0), ("who", 1)), (4,)), "chain"), (((("T",), ("who", 2)), (4,)), "chain"),
+                (((("who", 1), ("H",)), (4,)), "chain"), (((("H",), ("T",)), (4,)), "chain")]:
             self.assertEqual(self.fault(self.NAMES, "names", row), word)
+
+    def test_names_of_persons_told_by_number_are_no_names(self):
+        facts = Facts([("same", ("who", 0), ("who", 1)), ("same", ("whom", 1), ("who", 1))])
+        self.assertEqual(self.fault(facts, "names", ((("who", 0), ("who", 1)), (0,))), "ends")
+        self.assertEqual(self.fault(facts, "names", ((("who", 0), ("who", 1), ("whom", 1)), (0, 1))), "ends")
 
     def test_a_thing_that_is_equal_to_a_term_is_none(self):
         row = (3, (("who", 1), ("T",), ("H",)), (4, 1))
@@ -263,7 +272,7 @@ class ReasonFaultTest(FactCase):
                 ("weekday", 0), ("weekday", ()), ("weekday", (0, 0)), ("weekday", [0]), ("weekday", (True,)),
                 ("weekday", (0.0,)), ("weekdays", (0,)), ("weekdays", (0, 1, 2)), ("weekdays", (0, False)),
                 ("weekdays", [0, 1]), ("weekdays", ((0,), (1,))),
-                ("ring", ()), ("ring", ((),)), ("ring", legs[0]), ("ring", list(legs)), ("ring", (list(legs[0]),)),
+                ("rings", legs), ("sum", legs), (None, legs), ("ring", ()), ("ring", ((),)), ("ring", legs[0]), ("ring", list(legs)), ("ring", (list(legs[0]),)),
                 ("ring", (([0, "high"],),)), ("ring", (((0,),),)), ("ring", (((0, "high", 1),),)),
                 ("ring", (((True, "high"),),)), ("ring", (((0, "top"),),)), ("ring", (((0, None),),)),
                 ("ring", legs + ((),)), ("ring", (((0, ["high"]),),)), ("ring", None)]:

@@ -34,7 +34,7 @@ NO_FACTS = [
     ("between", ("sevens", D, (0,) * 7), D, 0, 1), ["between", D, D, 0, 1], ("between", ["D"], D, 0, 1),
     ("weekday", D), ("weekday", D, 7), ("weekday", D, -1), ("weekday", D, True), ("weekday", D, False),
     ("weekday", D, None), ("weekday", D, "1"), ("weekday", D, 1.0), ("weekday", ("T",), 1), ("weekday", D, 1, 2),
-    ("weekday", ("date", True), 1), ("weekday", D, D), ("weekday", D, 1, 2, 3), ("same", ("T",), ("H",), 0, 1), object(),
+    ("weekday", ("date", True), 1), ("weekday", D, D), ("weekday", D, 1, 2, 3), ("betwixt", D, D, 0, 1), (None, D, D, 0, 1), ("same", ("T",), ("H",), 0, 1), object(),
 ]
 FULL = (("pat", "quin", 3, "york"),) * 12
 

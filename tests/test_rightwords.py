@@ -183,6 +183,10 @@ class AgainstMenuTest(FactCase):
         # Words that mean nothing at the level, or are of another kind, are not asked for.
         self.assertIsNone(against_fault(OUTER, ("where", 0), facts, Menu(["york"]), (good,)))
         self.assertEqual(against_fault(WITHIN, ("name", "cy"), NONE, menu, (good,)), "word")
+        # Values that lack what facts or the term ask for are those of no fit.
+        for values in ((), full[:2], full[:1]):
+            self.assertEqual(against_fault(OUTER, term, facts, menu, (good, (good[0], values))), "fit")
+        self.assertEqual(against_fault(OUTER, ("who", 2), NONE, menu, ((good[0], full[:2]),)), "fit")
 
 
 class ErrorsTest(FactCase):

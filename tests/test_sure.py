@@ -120,6 +120,18 @@ class SureSameTest(FactCase):
         self.assertIsNone(sure_same(mondays, ("sevens", D, saw_sevens(1, 0)), OTHER))
         self.assertIsNone(sure_same(mondays, TODAY, ("sevens", ("day", 0), saw_sevens(1, -8))))
 
+    def test_days_of_known_rests_with_and_without_bounds(self):
+        mondays = [("weekday", D, 1), ("weekday", ("day", 0), 1)]
+        for low, high in [(None, None), (7, None), (None, 7), (7, 14), (0, 7), (6, 8), (1, 13), (1, 14), (0, 13), (14, 14), (None, -7), (-7, None)]:
+            facts = Facts(mondays + [("between", D, ("day", 0), low, high)])
+            for weeks in range(-1, 4):
+                fit = sure_same(facts, ("sevens", D, even_sevens(7 * weeks)), OTHER)
+                only = weeks == 1 and (low, high) in ((6, 8), (1, 13)) or weeks == 2 and low == 14
+                self.assertEqual(fit is None, only, (low, high, weeks))
+                if fit is not None:
+                    self.check_fit(facts, fit)
+                    self.assertNotEqual(fit[0].day + 7 * weeks, fit[1][0][2])
+
     def test_names_of_the_terms_are_not_taken(self):
         for name in ("aaa", "aab", "aac"):
             fit = sure_same(NONE, ("T",), ("name", name))

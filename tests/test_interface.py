@@ -68,6 +68,20 @@ rewording: rewording_fault(old,new,tongue,facts,*,into=None)
 retelling: retold(talk,path,tongue,facts,menu) retold_all(talk,manner,tongue,facts,menu)
 retelling: in_tongue(talk,tongue,other,facts,menu)
 retelling: handed_talk(talk,who,day,place,tongue,facts,menu,*,manner='indirect')
+scribes: new_situation(situation,step) rule_used(book,word,situation,step) written_word(book,word,situation,step)
+scribes: word_chain(book,word,situation,steps) handed_on(talk,situation,book,steps)
+scribes: first_wrong(talk,situation,book,steps)
+chains: always_right(book,word) closed_fault(book,word,rows) rules_reached(book,word) talk_errs(book,talk)
+chains: settled_after(book,word)
+samebooks: same_books(one,other,word)
+bookmends: least_strikes(book,words) strike_fault(book,words,numbers)
+firstwords: first_words(talk,report_path,path,index,tongue) count_first_talks(talk,report_path,tongue)
+firstwords: first_talk_at(talk,report_path,tongue,number) number_of_first(talk,report_path,tongue,first)
+firstwords: first_talks(talk,report_path,tongue)
+origins: days_leading_to(sevens,term) origins_of(talk,path,first,tongue) is_origin(talk,path,first,tongue,origin)
+joined: one_report(talk,path,tongue) joined_values(talk,path,tongue,values=())
+passing: tellings_of(talk,path,situation,tongue,values=()) first_stranger(talk,tongue) first_late(talk,tongue)
+passing: is_passed_on(talk,tongue)
 """
 CLASSES = """
 situations: Tongue(person,you,today,here) __eq__
@@ -82,10 +96,17 @@ sure: Unsure(path,index,situation,value_rows) __eq__
 safety: Unsafe(one,other,path,index) __eq__
 menus: Menu(names=(),places=(),dates=()) words_for(kind) position_of(word) __len__ __iter__ __eq__
 rewording: Differs(path,index,situation,value_rows) __eq__
+scribes: Step(delay,hearer,place) __eq__
+scribes: Book(days,persons,places) plain() without(numbers) __len__ __iter__ __eq__
+chains: Closed(rows) __eq__
+chains: WrongChain(situation,steps) __eq__
+chains: TalkErr(path,index,chain) __eq__
+samebooks: PartingChain(situation,steps) __eq__
+origins: Origins(tellers,hearers,days,places) __eq__
 """
 GENERATORS = [
     "rows_of", "words_of", "places_hanging", "outer_places", "unknown_places", "terms_in", "talks_alike",
-    "words_to_change", "all_rewordings", "possible_manners",
+    "words_to_change", "all_rewordings", "possible_manners", "word_chain", "first_talks",
 ]
 
 
@@ -129,7 +150,9 @@ class InterfaceTest(unittest.TestCase):
                 self.assertIn(method.split("(")[0], own, name)
                 if "(" in method:
                     arguments = [argument.arg for argument in own[method.split("(")[0]].args.args]
-                    self.assertEqual(arguments, ["self"] + method[:-1].split("(")[1].split(","))
+                    first = "cls" if own[method.split("(")[0]].decorator_list else "self"
+                    told = method[:-1].split("(")[1]
+                    self.assertEqual(arguments, [first] + (told.split(",") if told else []))
 
     def test_rows_stand_under_saying(self):
         talks = importlib.import_module("whosetomorrow.talks")

@@ -60,6 +60,14 @@ def things_below(rows, path):
     return found
 
 
+def told_within(told, path):
+    """Return the told rows within the report at a path."""
+    rows = told
+    for entry in path:
+        rows = rows[entry][6]
+    return rows
+
+
 def changed_row(row, change):
     """Return a told row with what a function makes of each thing in its place."""
     things = tuple([change(thing) for thing in things_of(row)])

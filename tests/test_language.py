@@ -251,7 +251,7 @@ class StatementsTest(unittest.TestCase):
             if node.name == "__eq__":
                 self.assertEqual(len(node.body), 1, place)
                 name = node.parent.name
-                self.assertRegex(ast.unparse(node.body[0]), rf"^return isinstance\(other, {name}\) and ", place)
+                self.assertRegex(ast.unparse(node.body[0]), rf"^return isinstance\(other, {name}\)( and |$)", place)
 
     def test_l7_expressions(self):
         barred = (

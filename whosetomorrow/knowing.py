@@ -1,9 +1,9 @@
 """What facts make sure of terms, and the fits that they have."""
 
-from whosetomorrow.clashes import refuse_clash
+from whosetomorrow.clashes import refuse_clash, rows_clash
 from whosetomorrow.daybounds import DayBounds
 from whosetomorrow.dayposts import ZERO
-from whosetomorrow.joins import lot_leaders
+from whosetomorrow.joins import is_named, lot_leaders
 from whosetomorrow.sevens import even_sevens
 from whosetomorrow.situations import Situation
 from whosetomorrow.strangers import fresh_names
@@ -62,6 +62,16 @@ def number_within(low, high, remainder, least, most):
     return remainder
 
 
+def fit_from(persons, spots, days):
+    """Return the fit with these names of all roots of persons and places, and days of roots; other days are 0."""
+    situation = Situation(persons[("T",)], persons[("H",)], days.get(("D",), 0), spots[("Z",)])
+    rows = [
+        (persons[("who", number)], persons[("whom", number)], days.get(("day", number), 0), spots[("where", number)])
+        for number in range(REPORTS)
+    ]
+    return (situation, tuple(rows))
+
+
 class Known:
     """What facts that have a fit make sure."""
 
@@ -73,6 +83,16 @@ class Known:
     def leader(self, term):
         """Return the term that stands for the lot of a term of a person or a place."""
         return self.leaders.get(term, term)
+
+    def name_for(self, term):
+        """Return the name that a term of a person or a place is in every fit, None if there is none."""
+        if is_named(term):
+            return term
+        for fact in self.rows:
+            for entry in fact[1:3]:
+                if fact[0] == "same" and is_named(entry) and self.leader(entry) == self.leader(term):
+                    return entry
+        return None
 
     def named_roots(self, head, roots, terms):
         """Return for each of these roots a name: one for each lot, unlike all names of facts and terms."""
@@ -93,13 +113,7 @@ class Known:
         """Return the fit with these days of posts in which only terms of one lot, of these too, have one name."""
         persons = self.named_roots("name", person_roots(), terms)
         spots = self.named_roots("place", place_roots(), terms)
-        situation = Situation(persons[("T",)], persons[("H",)], days.get(("D",), 0), spots[("Z",)])
-        rows = [
-            (persons[("who", number)], persons[("whom", number)], days.get(("day", number), 0),
-             spots[("where", number)])
-            for number in range(REPORTS)
-        ]
-        return (situation, tuple(rows))
+        return fit_from(persons, spots, days)
 
     def any_fit(self, terms):
         """Return a fit in which only terms of one lot, of these too, have one name."""
@@ -159,3 +173,9 @@ def know(facts):
     """Return what the facts make sure; facts that clash are refused."""
     refuse_clash(facts)
     return Known(facts.rows)
+
+
+def know_more(rows, more):
+    """Return what facts and more facts make sure together, None if they clash; they may be any number."""
+    together = tuple(rows) + tuple(more)
+    return None if rows_clash(together) else Known(together)

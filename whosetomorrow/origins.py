@@ -4,7 +4,7 @@ from whosetomorrow.errors import BadOrigin, BadTerm
 from whosetomorrow.forms import form_of
 from whosetomorrow.sevens import even_sevens, saw_sevens, shape_of_sevens
 from whosetomorrow.talkways import report_number
-from whosetomorrow.terms import day_plus, find_term_kind, root_of_term
+from whosetomorrow.terms import day_plus, find_term_kind, root_of_term, unknown_number
 from whosetomorrow.toldrows import first_parting, told_within
 from whosetomorrow.words import is_sequence
 
@@ -51,12 +51,6 @@ def days_leading_to(sevens, term):
     if shape[0] == "even":
         return (day_plus(term, -shape[1]),)
     return days_ahead_of_saw(shape, term)
-
-
-def unknown_number(term):
-    """Return the number of the report of whose unknown part a term is, None if it looks to none."""
-    root = root_of_term(term)
-    return None if root is None or len(root) == 1 else root[1]
 
 
 def later_part(term, more):

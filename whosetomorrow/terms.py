@@ -90,6 +90,12 @@ def root_of_term(term):
     return None if term[0] in ("name", "place", "date") else term
 
 
+def unknown_number(term):
+    """Return the number of the report of whose unknown part a term is, None if it looks to none."""
+    root = root_of_term(term)
+    return None if root is None or len(root) == 1 else root[1]
+
+
 def root_value(root, situation, values):
     """Return the name or the day that a root is in a situation with values."""
     head = root[0]

@@ -14,7 +14,7 @@ from whosetomorrow.talkways import row_at, words_of
 from whosetomorrow.words import find_kind
 
 NAMES = ["ann", "bob", "sa", "sb", "sc", "sd"]
-SPOTS = ["rome", "sa", "sb"]
+SPOTS = ["rome", "sa", "sb", "sc"]
 PERSONS = [("T",), ("H",), ("who", 0), ("whom", 0)]
 PLACES = [("Z",), ("where", 0)]
 DAYS = [("D",), ("day", 0)]

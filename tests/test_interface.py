@@ -82,6 +82,16 @@ origins: days_leading_to(sevens,term) origins_of(talk,path,first,tongue) is_orig
 joined: one_report(talk,path,tongue) joined_values(talk,path,tongue,values=())
 passing: tellings_of(talk,path,situation,tongue,values=()) first_stranger(talk,tongue) first_late(talk,tongue)
 passing: is_passed_on(talk,tongue)
+found: reading_fits(found,reading) a_reading(found) match_word(found,path,index,meaning)
+found: match_saying(found,path,deed,meanings)
+foundrange: who_can(found,path,index,names) days_can(found,path,index) sure_meaning(found,path,index)
+foundrange: is_open_word(found,path,index) settled_words(found)
+clues: clue_answer(clue,reading) unsettled_by(found,path,index,clues) least_clues(found,path,index,clues)
+promises: is_promise(talk,path,reading) do_clash(talk,path,other,reading) promise_case(found,path)
+promises: clash_case(found,path,other) promise_cases(found)
+changes: apply_changes(found,changes)
+wishes: find_miss(found,wishes) miss_fault(found,wishes,miss)
+mends: find_mends(found,wishes,pool) mends_fault(found,wishes,pool,mends) find_spoilers(found,wishes,pool)
 """
 CLASSES = """
 situations: Tongue(person,you,today,here) __eq__
@@ -103,10 +113,26 @@ chains: WrongChain(situation,steps) __eq__
 chains: TalkErr(path,index,chain) __eq__
 samebooks: PartingChain(situation,steps) __eq__
 origins: Origins(tellers,hearers,days,places) __eq__
+found: FoundLetter(talk,tongues,facts) __eq__
+found: Reading(tongue,situation,value_rows) __eq__
+found: Sure() __eq__
+found: Never() __eq__
+found: Both(yes,no) __eq__
+foundrange: CanBe(names,stranger) __eq__
+clues: Unsettled(one,other) __eq__
+promisebook: Promise(number,name,whom,deed,date,place,said_on) __eq__
+promisebook: Hearsay(number,tellers,name,whom,deed,date,place,said_on) __eq__
+promisebook: PromiseBook(tongue) promises hearsay binding hear(talk,situation,values=()) take_back(number) clashing()
+promisebook: PromiseBook(tongue) do_deed(name,deed,date,*,place=None) fate_of(number,date) borne_out() __len__ __iter__
+wishes: Miss(wish,readings) __eq__
+mends: Mends(least,misses) needed __eq__
+mends: Spoiler(choice,added,why) __eq__
+bench: Bench(found) put(change) take_back(number) trial() tried(call) __len__ __iter__
 """
 GENERATORS = [
     "rows_of", "words_of", "places_hanging", "outer_places", "unknown_places", "terms_in", "talks_alike",
     "words_to_change", "all_rewordings", "possible_manners", "word_chain", "first_talks",
+    "settled_words", "promise_cases",
 ]
 
 
@@ -149,10 +175,11 @@ class InterfaceTest(unittest.TestCase):
             for _, method in methods:
                 self.assertIn(method.split("(")[0], own, name)
                 if "(" in method:
-                    arguments = [argument.arg for argument in own[method.split("(")[0]].args.args]
+                    found = inspect.getattr_static(made, method.split("(")[0])
+                    found = found.__func__ if isinstance(found, classmethod) else found
                     first = "cls" if own[method.split("(")[0]].decorator_list else "self"
-                    told = method[:-1].split("(")[1]
-                    self.assertEqual(arguments, [first] + (told.split(",") if told else []))
+                    told = method.split("(", 1)[1]
+                    self.assertEqual(signature_text(found), f"({first}" + (")" if told == ")" else "," + told))
 
     def test_rows_stand_under_saying(self):
         talks = importlib.import_module("whosetomorrow.talks")

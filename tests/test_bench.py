@@ -114,6 +114,9 @@ class PutTest(LetterCase):
             self.refused(NoChange(number), bench.take_back, number)
         bench.put(ADD)
         bench.put(SAME)
+        for number in NO_WHOLES + [0, 3]:
+            self.refused(NoChange(number), bench.take_back, number)
+        self.assertEqual(len(bench), 2)
         bench.take_back(1)
         before = state(bench)
         for number in NO_WHOLES + [0, 1, 3, -2, 10 ** 30]:

@@ -28,7 +28,7 @@ NO_CLUES = [
     ("person", ("who", 12)), ("person", ("who", -1)), ("person", ("who", True)), ("person", ["T"]), ("person", ("T", 0)),
     ("place", ("place", "rome")), ("place", ("T",)), ("place", ("where", 12)), ("place", ("here",)), ("weekday", ("date", 3)),
     ("weekday", ("day", 12)), ("weekday", ("day", False)), ("weekday", 3), ("date", ("date", 3)), ("date", ("T",)),
-    ("date", ("sevens", D, (0,) * 7)), ("date", D, 1), ("day", D), ("name", ("T",)), (("tongue",),), 3, object(), ["date", D],
+    ("date", ("sevens", D, (0,) * 7)), ("day", ("sevens", D, (0,) * 7)), ([], D), ({},), ("date", D, 1), ("day", D), ("name", ("T",)), (("tongue",),), 3, object(), ["date", D],
     ("who", 0), ("T",), (None, D),
 ]
 

@@ -122,6 +122,12 @@ class DaysCanTest(LetterCase):
         self.assertEqual(days_can(far, (0, 0), 0), (
             (0, 21, 28), (1, 22, 29), (2, 23, 30), (3, 3, 3), (3, 17, 31), (4, 18, 25), (5, 19, 26), (6, 20, 27)))
         self.assertEqual(days_can(far, (0, 1), 0), ((3, 10, 10), (3, 24, 38)))
+        next_day = letter("/@a @b today+1 here (come today)", [("between", ("date", 17), D, 0, 14)], [STAY, shifting])
+        self.assertEqual(days_can(next_day, (0, 0), 0), (
+            (0, 21, 28), (1, 22, 29), (2, 23, 30), (3, 17, 31), (4, 18, 32), (5, 19, 26), (6, 20, 27)))
+        one_end = letter("/@a @b someday here (come coming3)", [
+            ("between", ("date", 17), D, 0, 14), ("between", ("date", 24), ("day", 0), 0, None)], [STAY, shifting])
+        self.assertEqual(days_can(one_end, (0, 0), 0), ((3, 24, None),))
         open_end = letter(text, [("between", ("date", 17), D, 0, None)], [shifting, STAY])
         self.assertEqual(days_can(open_end, (0, 1), 0), ((3, 10, 10), (3, 24, None)))
         both = letter(text, [("between", ("date", -17), D, None, 0)], [shifting, STAY])
@@ -219,6 +225,8 @@ class SureMeaningTest(LetterCase):
         self.assertEqual([is_open_word(found, (0,), index) for index in range(4)], [True, False, True, False])
         self.assertEqual([is_open_word(found, (1,), index) for index in range(2)], [False, False])
         half = letter("come today", [("between", ("date", 0), D, 0, None)])
+        self.assertTrue(is_open_word(half, (0,), 0))
+        half = letter("come today", [("between", ("date", 0), D, None, 0)])
         self.assertTrue(is_open_word(half, (0,), 0))
 
     def test_against_all_readings(self):

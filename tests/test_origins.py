@@ -63,7 +63,8 @@ class LeadingTest(Case):
 
     def test_saws_to_day_terms(self):
         for root in (D, ("day", 0), ("day", 11)):
-            self.assertEqual(days_leading_to(saw_sevens(3, 2), even(4, root)), ())
+            for k in range(-7, 14):
+                self.assertEqual(days_leading_to(saw_sevens(3, 2), even(k, root)), ())
             self.assertEqual(days_leading_to(saw_sevens(3, 2), saw(4, 2, root)), ())
             self.assertEqual(days_leading_to(saw_sevens(3, 2), saw(3, 6, root)), (
                 even(4, root), saw(1, -3 + 0, root), saw(2, -2, root), saw(3, -1, root), saw(4, 0, root),
@@ -87,6 +88,7 @@ class LeadingTest(Case):
                 None, ("T",), ("name", "ann"), ("place", "rome"), ("where", 1), ("date", True), ["date", 1], ("D",),
                 ("sevens", ("day", 12), even_sevens(0)), ("sevens", ("who", 1), even_sevens(0)), ("day", 1)):
             self.refused(BadTerm(), days_leading_to, even_sevens(0), no)
+            self.refused(BadTerm(), days_leading_to, saw_sevens(3, 0), no)
 
 
 TOLD = read_talk("/@cy I today-1 #rome [come I today+1 here; go you coming2]; /@eve somebody someday #oslo (go told; "
@@ -168,6 +170,11 @@ class OriginsTest(Case):
                 with_word(alone, (0,), 1, ("I",)), with_word(alone, (1,), 1, ("you",))]:
             self.assertIsNone(origins_of(TOLD, (0,), first, STAY))
             self.assertFalse(is_origin(TOLD, (0,), first, STAY, (("T",), ("H",), even(0), ("Z",))))
+        for text, words in [("come I", "here today =3 #rome"), ("come here", "I you today @cy"), ("come today", "I here @cy #rome"),
+                            ("come coming3", "you here @cy #rome"), ("come @cy", "today here =3 #rome")]:
+            talk = read_talk(f"/@cy I today #rome [{text}]")
+            for word in words.split():
+                self.assertIsNone(origins_of(talk, (0,), read_talk(f"come {word}"), STAY))
         told = read_talk("/@cy @dot =3 here (/@cy @dot =3 here (come))")
         self.assertIsNone(origins_of(told, (0,), read_talk("/@cy @dot =3 here [come]"), STAY))
         self.assertIsNotNone(origins_of(told, (0,), read_talk("/@cy @dot =3 here (come)"), STAY))

@@ -129,6 +129,13 @@ class StrangerTest(Case):
                 self.assertEqual(found[0], (0, 0))
                 self.shows(talk, STAY, found, heard_late)
 
+    def test_days_late_at_one_rest_alone(self):
+        for w in range(7):
+            talk = read_talk(f"/@cy I last{w} here (/@dot self today-6 here (come))")
+            found = first_late(talk, STAY)
+            self.assertEqual((found[0], found[1].day % 7), ((0, 0), w))
+            self.shows(talk, STAY, found, heard_late)
+
     def test_days_with_unlike_roots(self):
         for text, path in [
                 ("/@cy I someday here [/@dot I =3 here (come)]", (0,)),

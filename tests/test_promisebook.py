@@ -182,6 +182,9 @@ class BackTest(BookCase):
         book = PromiseBook(STAY)
         book.hear(read_talk("come I today here; go I today; come I today #oslo"), HERE)
         self.assertEqual(book.clashing(), ((1, 3),))
+        for number in NO_WHOLES + [0, 4]:
+            self.refused(NoPromise(number), book.take_back, number)
+        self.assertEqual(book.binding, (1, 2, 3))
         self.assertIsNone(book.take_back(2))
         self.assertEqual((book.binding, len(book), len(book.promises)), ((1, 3), 2, 3))
         self.assertIsNone(book.take_back(1))

@@ -160,6 +160,9 @@ class CaseTest(LetterCase):
         self.assertEqual(clash_case(letter("come I today #a; go I today #oslo"), (0,), (1,)), Sure())
         self.assertIsInstance(clash_case(letter("come I coming3 #a; go you =3 #oslo"), (0,), (1,)), Both)
         self.assertEqual(clash_case(letter("come I coming3 #a; go you =4 #oslo"), (0,), (1,)), Never())
+        # They clash, unless it is another day, or another person, alone.
+        self.assertIsInstance(clash_case(letter("come I coming3 #a; go I =3 #oslo"), (0,), (1,)), Both)
+        self.assertIsInstance(clash_case(letter("come I today #a; go you today #oslo"), (0,), (1,)), Both)
         self.assertEqual(clash_case(letter("come I today; go I today #oslo"), (0,), (1,)), Never())
         self.assertEqual(clash_case(letter("come I today #a; /I I today #oslo [go]"), (1,), (0,)), Never())
         self.assertEqual(clash_case(letter("come I today #a"), (0,), (0,)), Never())

@@ -117,6 +117,9 @@ class FindMissTest(WishCase):
         self.check(told, ("same as", read_talk("/@cy I today here [go I]")), False)
         self.check(told, ("same as", read_talk("/@cy I today here (go @cy)")), False)
         self.check(letter("/@cy I today here (go I)", (), [SHIFT]), ("same as", read_talk("/@cy I today here (go @cy)")), True)
+        manner = letter("/@cy I today here (go @cy)")
+        self.check(manner, ("same as", read_talk("/@cy I today here [go @cy]")), False)
+        self.check(manner, ("same as", read_talk("/@cy I today here (go @cy)")), True)
         self.check(letter(), ("same as", read_talk("come I today+1 here; /@cy you =3 here (go self that I today)")), False)
 
     def test_sure(self):

@@ -2,7 +2,7 @@
 
 from whosetomorrow.bookrules import numbered_rules
 from whosetomorrow.chainviews import search_views, start_views
-from whosetomorrow.choices import choices_in_order, number_sets
+from whosetomorrow.choices import choices_in_order, is_ascending, number_sets
 from whosetomorrow.errors import BadWord
 from whosetomorrow.scribes import chain_kind, is_chain_word
 from whosetomorrow.words import is_index, is_sequence
@@ -63,7 +63,7 @@ def are_numbers(numbers, count):
     """Tell whether a thing is a list or tuple of numbers from 0 below a count, ascending, none twice."""
     if not is_sequence(numbers) or not all([is_index(number, count) for number in numbers]):
         return False
-    return all([numbers[at] < numbers[at + 1] for at in range(len(numbers) - 1)])
+    return is_ascending(numbers)
 
 
 def strike_fault(book, words, numbers):

@@ -4,6 +4,7 @@ from whosetomorrow.bookrules import numbered_rules
 from whosetomorrow.chainviews import (
     FAR, LONGEST, all_states, chain_of, led_view, meant_where, moves_of, search_views, start_views, state_of, view_of,
 )
+from whosetomorrow.choices import is_ascending
 from whosetomorrow.scribes import chain_kind, refuse_reports
 from whosetomorrow.talkways import words_of
 from whosetomorrow.words import is_sequence
@@ -66,14 +67,7 @@ def shape_of(thing):
 
 def is_state(thing, states):
     """Tell whether a thing is one of these states."""
-    if not isinstance(thing, tuple):
-        return False
     return any([thing == state and shape_of(thing) == shape_of(state) for state in states])
-
-
-def is_ascending(rows):
-    """Tell whether each row stands behind the one before it."""
-    return all([rows[at] < rows[at + 1] for at in range(len(rows) - 1)])
 
 
 def closed_fault(book, word, rows):

@@ -21,7 +21,7 @@ def has_change_shape(change):
         return False
     if change[0] != "tongue":
         return True
-    return isinstance(change[1], str) and change[1] in LETTERS and isinstance(change[2], bool)
+    return change[1] in LETTERS and isinstance(change[2], bool)
 
 
 def place_fault(talk, path, index):

@@ -36,3 +36,8 @@ def number_sets(count):
         ]
         found.extend(longest)
     return found
+
+
+def is_ascending(rows):
+    """Tell whether each row is greater than the one ahead of it."""
+    return all([rows[at] < rows[at + 1] for at in range(len(rows) - 1)])

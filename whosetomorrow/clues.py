@@ -25,7 +25,7 @@ class Unsettled:
 
 def is_clue(thing):
     """Tell whether a thing is a clue."""
-    if not isinstance(thing, tuple) or not 1 <= len(thing) <= 2 or not isinstance(thing[0], str):
+    if not isinstance(thing, tuple) or not 1 <= len(thing) <= 2:
         return False
     head = thing[0]
     if len(thing) == 1:

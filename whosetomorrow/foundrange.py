@@ -33,8 +33,7 @@ def check_asked_names(names):
 
 def can_be_stranger(found, term, asked):
     """Tell whether a term of a person or a place means in some reading none of these names, given as terms."""
-    named = found.known.name_for(term)
-    return named is None or named not in asked
+    return found.known.name_for(term) not in asked
 
 
 def who_can(found, path, index, names):

@@ -7,32 +7,8 @@ from whosetomorrow.sayback import UNKNOWN_PARTS
 from whosetomorrow.talks import Plain, Report, Talk
 from whosetomorrow.talkways import check_values, report_at, report_number, rows_with
 from whosetomorrow.termlevels import term_or_none, terms_at, unknown_term, words_alike
-from whosetomorrow.terms import root_of_term
 from whosetomorrow.toldrows import told_within
 from whosetomorrow.words import is_unknown
-
-
-def joined_root(root, number, kept):
-    """Return a root as it is counted in the joined talk, None if it is lost there.
-
-    The outer report has this number; kept are the roots of the two reports that the new unknown parts stand for.
-    """
-    if len(root) == 1 or root[1] < number:
-        return root
-    if root[1] > number + 1:
-        return (root[0], root[1] - 1)
-    return (root[0], number) if root in kept else None
-
-
-def joined_term(term, number, kept):
-    """Return a term as it is counted in the joined talk, None if it is lost there."""
-    root = root_of_term(term)
-    if root is None:
-        return term
-    new = joined_root(root, number, kept)
-    if new is None:
-        return None
-    return ("sevens", new, term[2]) if term[0] == "sevens" else new
 
 
 def parts_kept(terms, number):
@@ -49,48 +25,41 @@ def parts_kept(terms, number):
 
 def word_for(word, term, level, path, index):
     """Return a word for a term at a level: this one, if it has the term."""
-    if term is not None and term_or_none(level, word) == term:
+    if term_or_none(level, word) == term:
         return word
-    words = () if term is None else words_alike(level, term)
+    words = words_alike(level, term)
     if len(words) == 0:
         raise NoWord(path, index)
     return words[0]
 
 
-class Joining:
-    """Says the rows of an inner report for new levels; the outer report has this number."""
+def words_said(words, terms, level, path):
+    """Return the words of the row at a path, which have these terms, for a new level; unknown ones stay."""
+    return [
+        word if is_unknown(word) else word_for(word, terms[index], level, path, index)
+        for index, word in enumerate(words)
+    ]
 
-    def __init__(self, number, kept, tongue):
-        self.number = number
-        self.kept = [root_of_term(unknown_term(at, index)) for index, at in enumerate(kept) if at is not None]
-        self.tongue = tongue
 
-    def said(self, words, told, level, path):
-        """Return the words of the row at a path, which have these terms, for this level, and their new terms."""
-        new = []
-        terms = []
-        for index, word in enumerate(words):
-            term = joined_term(told[index], self.number, self.kept)
-            new.append(word if is_unknown(word) else word_for(word, term, level, path, index))
-            terms.append(term)
-        return (new, terms)
+def row_said(row, told, level, tongue, path):
+    """Return the row at a path for a new level."""
+    if isinstance(row, Report):
+        return report_said(row, row.parts, told, level, tongue, path)
+    return Plain(row.deed, words_said(row.words, told[2], level, path))
 
-    def row_said(self, row, told, level, path):
-        """Return the row at a path for this level."""
-        if isinstance(row, Report):
-            return self.report_said(row, row.parts, told, level, path)
-        words, _ = self.said(row.words, told[2], level, path)
-        return Plain(row.deed, words)
 
-    def report_said(self, report, own, told, level, path):
-        """Return the report at a path, with these own words, for this level."""
-        words, terms = self.said(own, told[1:5], level, path)
-        within = inner_level(level, terms, report.manner, self.tongue)
-        rows = [
-            self.row_said(row, told[6][at], within, path + (at,)) for at, row in enumerate(report.rows)
-        ]
-        who, whom, day, place = words
-        return Report(who, whom, day, place, report.manner, rows)
+def report_said(report, own, told, level, tongue, path):
+    """Return the report at a path, with these own words, for a new level.
+
+    All terms keep the numbers that reports have in the old talk: so the terms of the two reports that are joined
+    stay apart, and what the new unknown parts do not stand for is at no level.
+    """
+    who, whom, day, place = words_said(own, told[1:5], level, path)
+    within = inner_level(level, told[1:5], report.manner, tongue)
+    rows = [
+        row_said(row, told[6][at], within, tongue, path + (at,)) for at, row in enumerate(report.rows)
+    ]
+    return Report(who, whom, day, place, report.manner, rows)
 
 
 def find_joined(talk, path, tongue):
@@ -103,8 +72,7 @@ def find_joined(talk, path, tongue):
     told = told_within(form_of(talk, tongue), path)[0]
     kept = parts_kept(told[1:5], number)
     own = [inner.parts[index] if at is None else UNKNOWN_PARTS[index] for index, at in enumerate(kept)]
-    joining = Joining(number, kept, tongue)
-    joined = joining.report_said(inner, own, told, terms_at(talk, path, tongue), tuple(path) + (0,))
+    joined = report_said(inner, own, told, terms_at(talk, path, tongue), tongue, tuple(path) + (0,))
     return (Talk(rows_with(talk.rows, path, joined)), kept)
 
 

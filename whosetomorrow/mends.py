@@ -1,7 +1,7 @@
 """Mends: the least changes behind which all wishes of a found letter hold."""
 
 from whosetomorrow.changes import apply_changes, check_changes
-from whosetomorrow.choices import number_sets
+from whosetomorrow.choices import is_ascending, number_sets
 from whosetomorrow.errors import BadChange, NoLetter
 from whosetomorrow.wishes import Miss, check_wishes, find_miss, miss_fault
 from whosetomorrow.words import is_index, is_sequence
@@ -94,8 +94,7 @@ def are_choices(things, pool):
     every = number_sets(len(pool))
     if not all([choice in every for choice in things]):
         return False
-    places = [every.index(choice) for choice in things]
-    return all([places[at] < places[at + 1] for at in range(len(places) - 1)])
+    return is_ascending([every.index(choice) for choice in things])
 
 
 def are_pairs(things):
@@ -110,7 +109,7 @@ def is_right_why(found, wishes, pool, choice, why):
     try:
         letter = apply_changes(found, [pool[place] for place in choice])
     except NoLetter as error:
-        return isinstance(why, str) and why == error.what
+        return why == error.what
     return isinstance(why, Miss) and miss_fault(letter, wishes, why) is None
 
 

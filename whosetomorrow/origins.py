@@ -1,10 +1,10 @@
 """Origins: in which situations a first talk says what is heard within a report."""
 
-from whosetomorrow.errors import BadOrigin, BadTerm
+from whosetomorrow.errors import BadOrigin
 from whosetomorrow.forms import form_of
 from whosetomorrow.sevens import even_sevens, saw_sevens, shape_of_sevens
 from whosetomorrow.talkways import report_number
-from whosetomorrow.terms import day_plus, find_term_kind, root_of_term, unknown_number
+from whosetomorrow.terms import check_day, day_plus, find_term_kind, root_of_term, unknown_number
 from whosetomorrow.toldrows import first_parting, told_within
 from whosetomorrow.words import is_sequence
 
@@ -46,17 +46,16 @@ def days_ahead_of_saw(saw, term):
 def days_leading_to(sevens, term):
     """Return all day terms from which sevens lead to a day term."""
     shape = shape_of_sevens(sevens)
-    if find_term_kind(term) != "day":
-        raise BadTerm()
+    check_day(term)
     if shape[0] == "even":
         return (day_plus(term, -shape[1]),)
     return days_ahead_of_saw(shape, term)
 
 
 def later_part(term, more):
-    """Return the term with the numbers of reports raised by so many."""
+    """Return the term, which looks to no outer part, with the numbers of reports raised by so many."""
     root = root_of_term(term)
-    if root is None or len(root) == 1:
+    if root is None:
         return term
     later = (root[0], root[1] + more)
     return ("sevens", later, term[2]) if term[0] == "sevens" else later

@@ -44,22 +44,18 @@ def first_stranger(talk, tongue):
 
 
 def late_root(day, told):
-    """Return (root, day of this root) with which one day term is behind another one if other roots have day 0, or None.
+    """Return (root, day of this root) with which a report's day is behind the day on which it is told, or None.
 
-    If both are dates it is any root.
+    The day on which it is told is over the outermost day: one over another root, or a date, was late itself.
     """
     root = root_of_term(day)
-    other = root_of_term(told)
-    if root is None and other is None:
-        return (("D",), 0) if day[1] > told[1] else None
-    if root == other:
+    if root == ("D",):
         rests = [rest for rest in range(7) if day[2][rest] > told[2][rest]]
         return (root, rests[0]) if rests else None
     if root is None:
-        return (other, day[1] - max(told[2]) - 1)
-    # The other day is told by a root on day 0, or it is a date.
-    ahead = told[1] if other is None else told[2][0]
-    return (root, ahead - min(day[2]) + 1)
+        return (("D",), day[1] - max(told[2]) - 1)
+    # It is the report's own unknown day; the outermost day is 0.
+    return (root, told[2][0] + 1)
 
 
 def first_late(talk, tongue):

@@ -3,7 +3,6 @@
 from whosetomorrow.errors import BadDeed, NoPromise
 from whosetomorrow.passing import tellings_of
 from whosetomorrow.promises import promise_told
-from whosetomorrow.talks import Plain
 from whosetomorrow.talkways import check_values, rows_of
 from whosetomorrow.words import is_index, is_name, is_whole
 
@@ -93,7 +92,7 @@ class PromiseBook:
         made = []
         spread = []
         for path, row in rows_of(talk):
-            told = promise_told(talk, path, situation, self.tongue, values) if isinstance(row, Plain) else None
+            told = promise_told(talk, path, situation, self.tongue, values)
             if told is None:
                 continue
             name, whom, deed, date, place, said_on = told

@@ -78,10 +78,10 @@ class SameBooksTest(BookCase):
         # A weekday that comes too late, or too early, is the day that a number tells as wrongly.
         for offset, delay, action, number in [
                 (9, 9, "coming", 2), (3, 8, "coming", 1), (-2, 8, "last", 1), (-7, 1, "last", 1)]:
-            one = Book([("today", offset, offset, delay, delay, action)], [], [])
-            other = Book([("today", offset, offset, delay, delay, number)], [], [])
-            same = part_through(one, other, ("today", offset)) is None
-            self.assertEqual(same_books(one, other, ("today", offset)) is None, same)
+            late = Book([("today", offset, offset, delay, delay, action)], [], [])
+            told = Book([("today", offset, offset, delay, delay, number)], [], [])
+            same = part_through(late, told, ("today", offset)) is None
+            self.assertEqual(same_books(late, told, ("today", offset)) is None, same)
             self.assertEqual(same, offset != -7)
         # Both write the new teller, then one keeps and the other names them: the same still.
         other = Book([], [("I", True, None, "keep"), ("I", False, None, "I")], [])

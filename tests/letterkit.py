@@ -3,14 +3,14 @@
 import random
 
 from tests.factkit import FactCase, day_fits, name_fits
-from tests.helper import STAY, TONGUES, told_talk
+from tests.helper import TONGUES, told_talk
 from tests.talkkit import heard_at
 from whosetomorrow.clashes import find_clash
-from whosetomorrow.facts import Facts, first_untrue
+from whosetomorrow.facts import Facts
 from whosetomorrow.found import Both, FoundLetter, Never, Reading, Sure, reading_fits
 from whosetomorrow.situations import Situation
 from whosetomorrow.talks import Plain, Report, Talk
-from whosetomorrow.talkways import row_at, words_of
+from whosetomorrow.talkways import report_paths, words_of
 from whosetomorrow.words import find_kind
 
 NAMES = ["ann", "bob", "sa", "sb", "sc", "sd"]
@@ -89,6 +89,32 @@ def small_facts(rng, most=4):
 def small_letter(rng, tongues=3, most=4):
     """Return a random small letter in up to so many tongues."""
     return FoundLetter(small_talk(rng), rng.sample(TONGUES, rng.randint(1, tongues)), small_facts(rng, most))
+
+
+def random_changes(rng, found):
+    """Return random changes, no two of which are double."""
+    changes = {}
+    places = list(words_of(found.talk))
+    for _ in range(rng.randint(1, 5)):
+        kind = rng.random()
+        if kind < 0.35 and places:
+            path, index, word = rng.choice(places)
+            new = {"person": ("you",), "day": rng.choice([("today", 3), ("date", 2)]), "place": ("here",)}[find_kind(word)]
+            changes["word", path, index] = ("word", path, index, new)
+        elif kind < 0.6 and places:
+            path, index, word = rng.choice(places)
+            if word[0] in ("today", "that day", "date"):
+                changes["add", path, index] = ("add", path, index, rng.choice([-1, 1, 7, 30]))
+        elif kind < 0.75 and report_paths(found.talk):
+            path = rng.choice(report_paths(found.talk))
+            changes["manner", path] = ("manner", path)
+        elif kind < 0.9:
+            name = rng.choice(["person", "you", "today", "here"])
+            changes["tongue", name] = ("tongue", name, rng.choice([True, False]))
+        else:
+            at = rng.randint(0, 3)
+            changes["fact", at] = ("fact", ("unlike", ("T",), ("who", at)))
+    return list(changes.values())
 
 
 def small_letters(many, seed, tongues=3, most=4):

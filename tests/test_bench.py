@@ -4,8 +4,7 @@ import random
 import unittest
 
 from tests.helper import NO_WHOLES, SHIFT, STAY, TONGUES
-from tests.letterkit import LetterCase, small_letter
-from tests.test_changes import OrderTest
+from tests.letterkit import LetterCase, random_changes, small_letter
 from whosetomorrow.bench import Bench
 from whosetomorrow.changes import apply_changes
 from whosetomorrow.errors import BadChange, NoChange, NoLetter
@@ -293,7 +292,7 @@ class WholeTest(LetterCase):
         seen = set()
         for _ in range(30):
             found = small_letter(rng, 16)
-            changes = [change for _ in range(4) for change in OrderTest().random_changes(rng, found)]
+            changes = [change for _ in range(4) for change in random_changes(rng, found)]
             if not changes:
                 continue
             bench, other = Bench(found), Told(found)

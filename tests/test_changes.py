@@ -5,7 +5,7 @@ import random
 import unittest
 
 from tests.helper import NO_WHOLES, NO_WORDS, SHIFT, STAY, TONGUES
-from tests.letterkit import NONE, LetterCase, small_letter
+from tests.letterkit import NONE, LetterCase, random_changes, small_letter
 from whosetomorrow.changes import apply_changes
 from whosetomorrow.errors import BadChange, NoLetter
 from whosetomorrow.facts import Facts
@@ -13,7 +13,7 @@ from whosetomorrow.found import FoundLetter
 from whosetomorrow.situations import Tongue
 from whosetomorrow.talks import Talk
 from whosetomorrow.talktext import read_talk
-from whosetomorrow.talkways import report_paths, words_of
+from whosetomorrow.talkways import words_of
 from whosetomorrow.words import find_kind
 
 D = ("D",)
@@ -218,37 +218,12 @@ class NoLetterTest(LetterCase):
 
 
 class OrderTest(LetterCase):
-    def random_changes(self, rng, found):
-        """Return random changes, no two of which are double."""
-        changes = {}
-        places = list(words_of(found.talk))
-        for _ in range(rng.randint(1, 5)):
-            kind = rng.random()
-            if kind < 0.35 and places:
-                path, index, word = rng.choice(places)
-                new = {"person": ("you",), "day": rng.choice([("today", 3), ("date", 2)]), "place": ("here",)}[find_kind(word)]
-                changes["word", path, index] = ("word", path, index, new)
-            elif kind < 0.6 and places:
-                path, index, word = rng.choice(places)
-                if word[0] in ("today", "that day", "date"):
-                    changes["add", path, index] = ("add", path, index, rng.choice([-1, 1, 7, 30]))
-            elif kind < 0.75 and report_paths(found.talk):
-                path = rng.choice(report_paths(found.talk))
-                changes["manner", path] = ("manner", path)
-            elif kind < 0.9:
-                name = rng.choice(["person", "you", "today", "here"])
-                changes["tongue", name] = ("tongue", name, rng.choice([True, False]))
-            else:
-                at = rng.randint(0, 3)
-                changes["fact", at] = ("fact", ("unlike", ("T",), ("who", at)))
-        return list(changes.values())
-
     def test_changes_in_every_order(self):
         rng = random.Random(181)
         made = refused = 0
         for _ in range(120):
             found = small_letter(rng, 16)
-            changes = self.random_changes(rng, found)
+            changes = random_changes(rng, found)
             results = []
             for order in itertools.islice(itertools.permutations(changes), 24):
                 try:
@@ -262,14 +237,14 @@ class OrderTest(LetterCase):
             self.assertTrue(all(result == results[0] for result in results))
             made += not isinstance(results[0], str)
             refused += isinstance(results[0], str)
-        self.assertTrue(min(made, refused) > 20)
+        self.assertTrue(min(made, refused) > 10)
 
     def test_paths_and_kinds_never_change(self):
         rng = random.Random(182)
         for _ in range(80):
             found = small_letter(rng, 16)
             try:
-                new = apply_changes(found, self.random_changes(rng, found))
+                new = apply_changes(found, random_changes(rng, found))
             except NoLetter:
                 continue
             self.assertEqual(

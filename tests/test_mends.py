@@ -5,8 +5,7 @@ import random
 import unittest
 
 from tests.helper import SHIFT, STAY, TONGUES
-from tests.letterkit import small_letter
-from tests.test_changes import OrderTest
+from tests.letterkit import random_changes, small_letter
 from tests.test_wishes import WishCase
 from whosetomorrow.changes import apply_changes
 from whosetomorrow.errors import BadChange, BadWish, NoLetter
@@ -162,7 +161,7 @@ class FindMendsTest(WishCase):
         sizes = set()
         for _ in range(40):
             found = small_letter(rng, 4, 2)
-            pool = OrderTest().random_changes(rng, found)[:4] + [SAME]
+            pool = random_changes(rng, found)[:4] + [SAME]
             places = list(words_of(found.talk))
             wishes = [SAFE]
             if places:

@@ -11,7 +11,7 @@ from whosetomorrow.hearing import hear_talk, said_alone, situation_within
 from whosetomorrow.origins import Origins, days_leading_to, is_origin, origins_of
 from whosetomorrow.sevens import even_sevens, saw_sevens
 from whosetomorrow.situations import Situation
-from whosetomorrow.talks import Plain, Report, Talk
+from whosetomorrow.talks import Plain, Talk
 from whosetomorrow.talktext import read_talk
 from whosetomorrow.talkways import places_in, names_in, report_number, row_at, with_word, words_of
 from whosetomorrow.terms import day_plus, value_of

@@ -270,7 +270,7 @@ class TalkTest(BookCase):
                 self.assertIsNotNone(first_wrong(talk, found.chain.situation, book, found.chain.steps))
 
 
-def lengths_without_end(book, word, far=70, deep=50):
+def lengths_without_end(book, word, far=70, deep=90):
     """Return the numbers of steps up to a depth behind which a word may not be settled."""
     delays = range(1, far + 30)
     layer = {}
@@ -346,7 +346,7 @@ class SettledTest(BookCase):
                 told.append(found)
                 if found is None:
                     # A date is tried from 70 days off alone, all others as far as they go.
-                    self.assertGreaterEqual(lengths[-1], 30 if word[0] == "date" else 48)
+                    self.assertGreaterEqual(lengths[-1], 30 if word[0] == "date" else 86)
                 else:
                     self.assertEqual(found, lengths[-1] + 1 if lengths else 0)
         self.assertTrue({None, 0, 1} < set(told), told)
